@@ -1,6 +1,10 @@
 package esc
 
 import (
+	"go/ast"
+	"go/parser"
+	"go/token"
+	"path/filepath"
 	"reflect"
 	"regexp"
 	"slices"
@@ -805,8 +809,8 @@ func TestP1306GroundAndKept(t *testing.T) {
 
 // However much comes, no more is kept than the limits need.
 func TestP1306LittleIsKept(t *testing.T) {
-	if n := unsafe.Sizeof(Parser{}); n > 200 {
-		t.Errorf("a Parser has %d bytes", n)
+	if n, m := unsafe.Sizeof(Parser{}), unsafe.Sizeof(rules{}); n > 200 || m > 400 {
+		t.Errorf("a Parser has %d bytes, and its rules %d", n, m)
 	}
 	for _, c := range []struct {
 		begin, more string
@@ -861,6 +865,7 @@ func TestP1301HoweverItIsCut(t *testing.T) {
 		}
 		holds(t, s, parts, l)
 		holds(t, s, bytes, m)
+		bytes.rules = parts.rules // each has its own, and they are alike
 		if *parts != *bytes {
 			t.Fatalf("%+q: %+v by parts, %+v by bytes", s, *parts, *bytes)
 		}
@@ -913,6 +918,55 @@ func TestP1301ParsersAreTheirOwn(t *testing.T) {
 	tells(t, "one", a, list(csiOf(0, "", 'm', 1, 23)), "3m")
 }
 
+// Nothing is kept but in Parsers: whatever is laid into one's rules, or becomes of it, another one goes on as it should.
+func TestP1301ParsersNeedNoOther(t *testing.T) {
+	const s = "5;6!x\x1b\\\x1b[2m\xc3\xa9\x1b]t\x07"
+	for _, c := range begunTexts {
+		a, b := fed(c.fed), fed(c.fed)
+		a.rules.table = [states]row{}
+		tells(t, "one without rules", a, nil, s)
+		holds(t, c.fed+s, b, b.Feed(s))
+		d := &Parser{}
+		holds(t, s, d, d.Feed(s))
+	}
+}
+
+func TestP1301TheTableIsMadeOnce(t *testing.T) {
+	p := &Parser{}
+	p.Feed()
+	first := p.rules
+	for _, c := range begunTexts {
+		p.Feed(c.fed, "\x18")
+	}
+	if p.rules != first || first.table != makeTable() {
+		t.Error("another table was made, or it was changed")
+	}
+	first.table[ground][final] = step{ground, skip}
+	tells(t, "a table that was turned", p, nil, "a")
+}
+
+// No state of the package's own, by LANGUAGE.md's rule 3b: at package level stands no variable without a value.
+func TestP1301NothingAtPackageLevel(t *testing.T) {
+	names, err := filepath.Glob("*.go")
+	if err != nil || len(names) == 0 {
+		t.Fatalf("%v: %d files", err, len(names))
+	}
+	for _, name := range names {
+		if strings.HasSuffix(name, "_test.go") {
+			continue
+		}
+		f, err := parser.ParseFile(token.NewFileSet(), name, nil, 0)
+		if err != nil {
+			t.Fatal(err)
+		}
+		for _, d := range f.Decls {
+			if g, ok := d.(*ast.GenDecl); ok && g.Tok == token.VAR {
+				t.Errorf("%s has a variable at package level", name)
+			}
+		}
+	}
+}
+
 // A copy in the midst of an act goes on by itself.
 func TestP1301Copies(t *testing.T) {
 	for _, c := range begunTexts {
@@ -925,6 +979,16 @@ func TestP1301Copies(t *testing.T) {
 	b := *a
 	tells(t, "one", a, list(csiOf(0, "", 'm', 1, 23, 4)), "3;4m")
 	tells(t, "its copy", &b, list(csiOf(0, "!", 'm', 1, 25)), "5!m")
+	a = fed("\x1b[1;2")
+	b = *a
+	*a = Parser{}
+	tells(t, "one that is zero again", a, printOf("3m"), "3m")
+	tells(t, "its copy", &b, list(csiOf(0, "", 'm', 1, 23)), "3m")
+	a = &Parser{}
+	b = *a
+	tells(t, "a zero one", a, nil, "\x1b[1")
+	tells(t, "its copy", &b, printOf("2m"), "2m")
+	tells(t, "a zero one", a, list(csiOf(0, "", 'm', 12)), "2m")
 	a = fed("\xe2\x82")
 	b = *a
 	tells(t, "one", a, printOf("\ufffdx"), "x")
@@ -966,17 +1030,23 @@ func notIn(t *testing.T, part, s string) {
 	}
 }
 
-// Many may be fed at the same time, the first time too.
+// Many may be fed at the same time, the first time too, and copies of one.
 func TestP1301ManyAtOnce(t *testing.T) {
 	const s = "a\x1b[1;2H\x1b]t\x07\xe2\x82\xac\x1b(0"
 	want := list(printOf("a"), csiOf(0, "", 'H', 1, 2), oscOf("t"), printOf("\u20ac"), escapeOf("(", '0'))
 	got := make([][]api.Act, 50)
+	of := make([]Parser, len(got))
+	one := fed("\x1b[1;2")
+	one.Feed("\x18")
 	var all sync.WaitGroup
 	for i := range got {
+		if i%2 == 1 {
+			of[i] = *one
+		}
 		all.Add(1)
 		go func() {
 			defer all.Done()
-			got[i] = (&Parser{}).Feed(s)
+			got[i] = of[i].Feed(s)
 		}()
 	}
 	all.Wait()

@@ -2,11 +2,11 @@ package esc
 
 import "sync"
 
-// The table is the same for all Parsers, and as many as there are may be fed at the same time: it is filled inside the once, and read behind it.
-var (
+// rules have the table of states, which is filled inside the once, and read behind it. A Parser and its copies share them: nothing changes them any more.
+type rules struct {
 	once  sync.Once
 	table [states]row
-)
+}
 
 // state is where a Parser stands between two bytes: one of the chapter's five, told apart by what may stand there yet.
 type state uint8
@@ -73,6 +73,12 @@ type step struct {
 }
 
 type row [kinds]step
+
+// rows are made when they are asked for first.
+func (r *rules) rows() *[states]row {
+	r.once.Do(func() { r.table = makeTable() })
+	return &r.table
+}
 
 // makeTable makes what a byte of each kind does in each state.
 func makeTable() [states]row {
